@@ -1,0 +1,1 @@
+"""Sameanswers: one tree of files that many agents change at once."""
