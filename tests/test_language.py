@@ -12,7 +12,7 @@ FILES = sorted(PACKAGE.glob("*.py"))
 LIBRARY = {
     "heapq": ("heappush", "heappop", "heapify", "heapreplace", "heappushpop"),
     "math": ("gcd", "lcm", "isqrt", "comb", "perm", "factorial"),
-    "itertools": ("product", "combinations", "permutations", "chain", "accumulate", "pairwise", "islice", "zip_longest"),
+    "itertools": tuple("product combinations permutations chain accumulate pairwise islice zip_longest".split()),
     "collections": ("defaultdict", "deque"),
     "__future__": ("annotations",),
 }
