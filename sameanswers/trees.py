@@ -66,3 +66,14 @@ def tree_of(table):
     tree = Tree()
     tree._table = table
     return tree
+
+
+def paths_under(tree, place):
+    """The rising tuple of the paths that are the place or lie inside it."""
+    own = () if tree.lines(place) is None else (place,)
+    return own + tree.paths(place)
+
+
+def paths_above(tree, path):
+    """The rising tuple of the paths inside which the path lies."""
+    return tuple([place for place in tree.paths("") if is_inside(path, place)])

@@ -6,7 +6,7 @@ import unittest
 
 from sameanswers import trees
 from sameanswers.errors import OutOfRange
-from sameanswers.trees import Tree
+from sameanswers.trees import Tree, paths_above, paths_under
 
 # Rising paths: a slash comes before a digit, a digit before a letter, a string after its beginnings.
 RISING = ("10", "9", "9a", "a/b/c", "a/b0", "a0", "ab/c", "b")
@@ -138,6 +138,21 @@ class Asking(TreeCase):
                 self.assertEqual(tree.paths(place), ())
         self.assertIs(type(tree.paths("a")), tuple)
         self.assertEqual(Tree().paths(""), ())
+
+    def test_paths_under_a_place(self):
+        tree = Tree([(path, ()) for path in ("b", "a0", "ab/c", "a/b0", "a/b/c", "a/b/a")])
+        self.assertEqual(paths_under(tree, ""), ("a/b/a", "a/b/c", "a/b0", "a0", "ab/c", "b"))
+        self.assertEqual(paths_under(tree, "a"), ("a/b/a", "a/b/c", "a/b0"))
+        self.assertEqual(paths_under(tree, "b"), ("b",))
+        self.assertEqual(paths_under(tree, "a/b/c"), ("a/b/c",))
+        self.assertEqual(paths_under(tree, "c"), ())
+
+    def test_paths_above_a_path(self):
+        tree = Tree([(path, ()) for path in ("b", "a0", "a/b", "ab/c")])
+        for path, above in (("b/a", ("b",)), ("b/a/c", ("b",)), ("a/b/c", ("a/b",)), ("a0/a", ("a0",))):
+            self.assertEqual(paths_above(tree, path), above)
+        for path in ("b", "a", "a/b", "a/c", "ba", "ab", "c/b"):
+            self.assertEqual(paths_above(tree, path), ())
 
     def test_folders(self):
         tree = Tree(SAMPLE)
