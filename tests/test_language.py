@@ -148,6 +148,43 @@ class LanguageTest(unittest.TestCase):
                         faults.append((path, node.lineno, node.attr))
         self.assert_no_faults(faults)
 
+    def test_attributes_are_assigned_through_a_name(self):
+        faults = []
+        for path, tree in trees():
+            for node in ast.walk(tree):
+                if isinstance(node, ast.Attribute) and not isinstance(node.ctx, ast.Load):
+                    if not isinstance(node.value, ast.Name):
+                        faults.append((path, node.lineno, node.attr))
+        self.assert_no_faults(faults)
+
+    def test_no_two_files_import_from_each_other(self):
+        needs = {}
+        for path, tree in trees():
+            found = [row.module.partition(".")[2] for row in tree.body if isinstance(row, ast.ImportFrom)]
+            needs[path.stem] = [name for name in found if name]
+        for name in needs:
+            # All that a file needs, directly or not; the file itself is not among it.
+            reached, waiting = set(), list(needs[name])
+            while waiting:
+                other = waiting.pop()
+                if other not in reached:
+                    reached.add(other)
+                    waiting += needs[other]
+            self.assertNotIn(name, reached)
+
+    def test_no_variable_has_the_name_of_a_class_or_an_import(self):
+        faults = []
+        for path, tree in trees():
+            rows = [row for row in tree.body if isinstance(row, ast.ImportFrom)]
+            taken = [name.name for row in rows for name in row.names]
+            taken += [row.name for row in tree.body if isinstance(row, ast.ClassDef)]
+            for node in ast.walk(tree):
+                if isinstance(node, ast.arg) and node.arg in taken:
+                    faults.append((path, node.lineno, node.arg))
+                if isinstance(node, ast.Name) and isinstance(node.ctx, ast.Store) and node.id in taken:
+                    faults.append((path, node.lineno, node.id))
+        self.assert_no_faults(faults)
+
     def test_classes(self):
         faults = []
         for path, tree in trees():

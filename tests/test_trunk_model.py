@@ -1,4 +1,4 @@
-"""Points 27 to 33 once more: a second trunk, said point by point, goes side by side with the trunk in many drawn runs."""
+"""Points 27 to 33 once more: a second trunk, said point by point, goes beside the trunk through many drawn runs."""
 
 import random
 import unittest
